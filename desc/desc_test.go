@@ -177,6 +177,15 @@ func TestP15_2Examples(t *testing.T) {
 	refusedParse(t, exampleP(), filled(64, 1), api.ErrDesc)
 }
 
+// The descriptor of the length 0 is read as the zero value, without a list that is empty and yet not nil.
+func TestP15_2NoRefs(t *testing.T) {
+	every(func(p api.Params) {
+		if d, err := Parse(p, make([]byte, p.K*p.Cell)); err != api.OK || !zero(d) {
+			t.Fatalf("%v: Parse of bytes 0 is %s, %d, its Refs are nil: %v", p, told(d), err, d.Refs == nil)
+		}
+	})
+}
+
 func TestP15_2ParseOfMany(t *testing.T) {
 	for _, p := range few() {
 		descs(p, func(d api.Desc) { checkParse(t, p, wantBytes(p, d), d) })

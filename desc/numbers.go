@@ -45,9 +45,9 @@ func readDesc(b []byte) content {
 
 // readLeaf is so many refs, for which there is room, with the bytes that stand behind them.
 func readLeaf(b []byte, many int) content {
-	refs := make([]api.Ref, many)
-	for i := range refs {
-		refs[i] = readRef(b)
+	var refs []api.Ref // nil where there are none: the descriptor of the length 0 is read as the zero value
+	for range many {
+		refs = append(refs, readRef(b))
 		b = b[refBytes:]
 	}
 	return content{refs: refs, rest: b}
