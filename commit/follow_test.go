@@ -66,10 +66,10 @@ func TestP16_5WipedThen(t *testing.T) {
 			blank(p).having(p, 0, 2, 5, data, all...),
 			blank(p).having(p, 1, 2, 5, data, all...).holding(p, 0, 4, all...),
 		} {
-			puts := checkPuts(t, p, r, 1, 8, d)
-			if p.K+p.R > 12 && i > 0 {
+			if n > 12 && i > 0 {
 				continue // the choices of 4 of 16 are many
 			}
+			puts := checkPuts(t, p, r, 1, 8, d)
 			for made := range len(puts) + 1 {
 				now := r.behind(p, puts[:made])
 				wipes(p, func(wiped []int) {
@@ -187,6 +187,33 @@ func TestP16_6BehindPuts(t *testing.T) {
 				}
 				allHold(t, p, now.behind(p, left), 8, d)
 			}
+		}
+	}
+}
+
+// Behind each number of raw writes of Finish, and each choice of at most R drives wiped then, it is the winner just if K drives have it that are not wiped; else the runner, which stayed.
+func TestP16_6WipedWhileTheyAreMade(t *testing.T) {
+	t.Parallel()
+	for _, p := range few() {
+		n := p.K + p.R
+		old, d := descOf(p, measured(p).most, 5), descOf(p, measured(p).width+1, 6)
+		r := blank(p).having(p, 0, 2, 5, wantBytes(p, old), upTo(0, n)...).having(p, 1, 2, 8, wantBytes(p, d), upTo(p.R, n)...)
+		left := checkFinish(t, p, r, 1)
+		for made := range len(left) + 1 {
+			now := r.behind(p, left[:made])
+			wipes(p, func(wiped []int) {
+				has := p.K + made
+				for _, drive := range wiped {
+					if drive < made || drive >= p.R {
+						has--
+					}
+				}
+				if has >= p.K {
+					tells(t, p, now.without(wiped...), d, 8, api.OK)
+				} else {
+					tells(t, p, now.without(wiped...), old, 5, api.OK)
+				}
+			})
 		}
 	}
 }
